@@ -1,0 +1,1 @@
+"""Lineswitch: boards of lights switched by whole lines."""
