@@ -1,6 +1,6 @@
 """Boards of lights, and the switchings of their lines."""
 
-from lineswitch.errors import NoBoard, NoSwitching, TooMany, Unlike
+from lineswitch.errors import NoBoard, NoLine, NoNumber, NoSwitching, TooMany, Unlike
 
 MOST_LINES = 8
 
@@ -11,9 +11,14 @@ def is_whole(thing):
     return isinstance(thing, int) and not isinstance(thing, bool)
 
 
+def is_between(thing, least, most):
+    """Tell whether a thing is a whole number from the least to the most one."""
+    return is_whole(thing) and least <= thing <= most
+
+
 def is_light(thing):
     """Tell whether a thing is a light."""
-    return is_whole(thing) and 0 <= thing <= 1
+    return is_between(thing, 0, 1)
 
 
 def is_line_tuple(thing):
@@ -37,6 +42,19 @@ def need_board(thing):
     """Refuse what is no board."""
     if not is_board(thing):
         raise NoBoard("this is no board")
+
+
+def need_size(high, wide):
+    """Refuse what is not how many rows, and then how many columns, a board may have."""
+    for many in (high, wide):
+        if not is_between(many, 1, MOST_LINES):
+            raise NoNumber(f"a whole number from 1 to {MOST_LINES} was wanted")
+
+
+def need_line(thing, many):
+    """Refuse what is not the number of one of so many lines."""
+    if not is_between(thing, 0, many - 1):
+        raise NoLine("the board has no such line")
 
 
 def lit_many(board):

@@ -11,7 +11,8 @@ SMALL_SIZES = [(high, wide) for high in range(1, 4) for wide in range(1, 4)]
 ODD_THINGS = [
     None, True, False, "", "0", "01", "((0,),)", 2, -1, 10 ** 29, -10 ** 29,
     [], [0], [[0]], [(0,)], {}, {0: 0}, {"a": (0,)}, {0: (0,), 1: (0,)},
-    (None,), (True,), ("0",), ((),), (((0,),),), ((((((0,),),),),),),
+    (None,), (True,), ("0",), ((),), (((0,),),), (((((((0,),),),),),),), [[[[[[[]]]]]]],
+    "~" * 200, [0] * 299, (0,) * 299, tuple(range(299)), {k: (k,) for k in range(99)},
 ]
 
 
@@ -22,6 +23,26 @@ def board_at_random(high, wide, seed):
 
 def boards_at_random(each=3):
     return [board_at_random(high, wide, seed) for high, wide in SIZES for seed in range(each)]
+
+
+def boards_of_size(high, wide):
+    """Boards of a size of many sorts: few and many lit, rows alike, chequered, by chance."""
+    dark, lit = ((0,) * wide,) * high, ((1,) * wide,) * high
+    first, other = board_at_random(1, wide, 7)[0], board_at_random(1, wide, 8)[0]
+    return [
+        dark, lit, put(dark, high - 1, wide - 1, 1), put(lit, 0, wide - 1, 0),
+        put(put(dark, 0, 0, 1), high - 1, wide // 2, 1),
+        (first,) * high, tuple((first, other)[row % 2] for row in range(high)),
+        tuple((first, other)[row > 0] for row in range(high)),
+        tuple(tuple((row + column) % 2 for column in range(wide)) for row in range(high)),
+        tuple(tuple(int(column <= row) for column in range(wide)) for row in range(high)),
+        tuple(tuple((row & column).bit_count() % 2 for column in range(wide)) for row in range(high)),
+        board_at_random(high, wide, 20), board_at_random(high, wide, 21),
+    ]
+
+
+def boards_of_sorts():
+    return [board for high, wide in SIZES for board in boards_of_size(high, wide)]
 
 
 def all_boards(high, wide):
@@ -63,6 +84,17 @@ def switched_plainly(board, switching):
 
 def lit_plainly(board):
     return sum(light for row in board for light in row)
+
+
+def left_by_plainly(board, rows):
+    """What is left with these rows switched, each column by itself."""
+    made = switched_plainly(board, (rows, ()))
+    return sum(min(column.count(0), column.count(1)) for column in zip(*made))
+
+
+def left_plainly(board):
+    """The fewest lit lights, all lots of rows tried."""
+    return min(left_by_plainly(board, rows) for rows in all_lots(len(board)))
 
 
 def all_alike(board):
@@ -140,6 +172,15 @@ def no_switchings(board):
     return ODD_THINGS + lots_wrong_first + lots_wrong_second + [
         0, (), ((),), ((), (), ()), [(), ()], [[], []], ((0,),), ((0,), (), ()), (0, 0), "rc",
         {0: (), 1: ()}, (((), ()),),
+    ]
+
+
+def no_numbers(least, most):
+    """Things that are no whole numbers from the least to the most one."""
+    beyond = [least - 1, most + 1, least - 9, -most - 1, 2 * most + 1, 10 ** 29, -10 ** 29]
+    return beyond + [thing for thing in ODD_THINGS if type(thing) is not int] + [
+        str(least), str(most), (least,), [most], {least: most}, (least, most), f"{least} ",
+        "~" * 200,
     ]
 
 

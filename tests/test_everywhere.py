@@ -3,13 +3,38 @@
 import copy
 import unittest
 
-from lineswitch import alike, boards, left
+from lineswitch import alike, boards, bounds, floors, left, worst
+from lineswitch.keeper import Keeper
 from tests import samples
 
 BOARD = ((0, 1, 1), (1, 0, 0), (1, 0, 1))
 OTHER = ((1, 1, 1), (1, 0, 0), (0, 0, 1))
 ONE = ((0, 2), (1,))
 TWO = ((1,), (0, 1, 2))
+
+
+def keeper_with_deeds(board):
+    keeper = Keeper(board)
+    keeper.light(0, 1)
+    keeper.row(2)
+    return keeper
+
+
+def kept_board(board):
+    return keeper_with_deeds(board).board()
+
+
+def kept_left(board):
+    return keeper_with_deeds(board).left()
+
+
+def kept_best(board):
+    return keeper_with_deeds(board).best()
+
+
+def kept_news(board):
+    return keeper_with_deeds(board).news()
+
 
 QUESTIONS = [
     (boards.is_board, (BOARD,)),
@@ -35,6 +60,20 @@ QUESTIONS = [
     (left.best_columns, (BOARD, (0, 2))),
     (left.left_by, (BOARD, (0, 2))),
     (left.left_counts, (BOARD,)),
+    (bounds.mean_left, (3, 5)),
+    (bounds.bound_of, (3, 5)),
+    (bounds.road_of, (BOARD,)),
+    (bounds.road_switching, (BOARD,)),
+    (floors.floor_shown, (BOARD, [(0, 2, 0, 2)])),
+    (floors.floor_fours, (BOARD,)),
+    (worst.worst_left, (3, 4)),
+    (worst.worst_forms, (3, 4)),
+    (worst.form_counts, (3, 4)),
+    (worst.is_worst, (BOARD,)),
+    (kept_board, (BOARD,)),
+    (kept_left, (BOARD,)),
+    (kept_best, (BOARD,)),
+    (kept_news, (BOARD,)),
 ]
 
 
@@ -72,6 +111,7 @@ class EverywhereTest(unittest.TestCase):
         for thing in things:
             boards.is_board(thing)
             boards.is_switching(BOARD, thing)
+            floors.floor_shown(BOARD, thing)
         self.assertEqual(things, kept)
 
 

@@ -12,16 +12,6 @@ BOARD = ((0, 1, 1), (1, 0, 0), (1, 0, 1))
 HALVED = tuple(tuple((row & column).bit_count() % 2 for column in range(8)) for row in range(8))
 
 
-def left_plainly(board):
-    """The fewest lit lights, all lots of rows tried and each column by itself."""
-    return min(left_by_plainly(board, rows) for rows in samples.all_lots(len(board)))
-
-
-def left_by_plainly(board, rows):
-    made = samples.switched_plainly(board, (rows, ()))
-    return sum(min(column.count(0), column.count(1)) for column in zip(*made))
-
-
 class LeftTest(unittest.TestCase):
     def test_left_told(self):
         self.assertEqual(left.left_many(BOARD), 1)
@@ -45,20 +35,20 @@ class LeftTest(unittest.TestCase):
 
     def test_boards_of_every_size(self):
         for board in samples.boards_at_random(1):
-            fewest = left_plainly(board)
+            fewest = samples.left_plainly(board)
             self.assertEqual(left.left_many(board), fewest)
             self.leaves_so_few(board, fewest)
 
     def test_eight_by_eight(self):
         boards = [samples.board_at_random(8, 8, seed) for seed in range(5)]
         for board in boards + [HALVED, ((0,) * 8,) * 8, ((1,) * 8,) * 8]:
-            fewest = left_plainly(board)
+            fewest = samples.left_plainly(board)
             self.assertEqual(left.left_many(board), fewest)
             self.leaves_so_few(board, fewest)
 
     def test_is_best_held_against_all_switchings(self):
         for board in [((0,),), ((1, 0),), ((0,), (1,)), ((0, 1), (1, 1)), BOARD]:
-            fewest = left_plainly(board)
+            fewest = samples.left_plainly(board)
             for switching in samples.all_switchings(board):
                 lit = samples.lit_plainly(samples.switched_plainly(board, switching))
                 self.assertIs(left.is_best(board, switching), lit == fewest)
@@ -121,7 +111,8 @@ class LeftCountsTest(unittest.TestCase):
             self.assertIs(type(told), list)
             self.assertEqual(len(told), high * wide + 1)
             self.assertEqual(sum(told), 2 ** (high + wide - 1))
-            self.assertEqual([bool(many) for many in told].index(True), left_plainly(board))
+            fewest = samples.left_plainly(board)
+            self.assertEqual([bool(many) for many in told].index(True), fewest)
 
     def test_the_same_of_the_board_turned(self):
         for board in samples.boards_at_random(1):
