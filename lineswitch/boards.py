@@ -44,11 +44,16 @@ def need_board(thing):
         raise NoBoard("this is no board")
 
 
+def need_number(thing, least, most):
+    """Refuse what is no whole number from the least to the most one."""
+    if not is_between(thing, least, most):
+        raise NoNumber(f"a whole number from {least} to {most} was wanted")
+
+
 def need_size(high, wide):
     """Refuse what is not how many rows, and then how many columns, a board may have."""
-    for many in (high, wide):
-        if not is_between(many, 1, MOST_LINES):
-            raise NoNumber(f"a whole number from 1 to {MOST_LINES} was wanted")
+    need_number(high, 1, MOST_LINES)
+    need_number(wide, 1, MOST_LINES)
 
 
 def need_line(thing, many):

@@ -1,4 +1,4 @@
-"""Boards, lots, wrong things and plain reckonings that the tests share."""
+"""Boards, lots, nets, wrong things and plain reckonings that the tests share."""
 
 import copy
 import itertools
@@ -182,6 +182,118 @@ def no_numbers(least, most):
         str(least), str(most), (least,), [most], {least: most}, (least, most), f"{least} ",
         "~" * 200,
     ]
+
+
+def net_of_ties(many, tied, lit):
+    """A net with these pairs tied, those of them lit that are among the lit ones."""
+    return (many, tuple((a, b, int((a, b) in lit)) for a, b in sorted(tied)))
+
+
+def net_at_random(many, pieces, part, seed):
+    """A net of places in so many heaps at least; about a part of ten of the pairs in one are tied."""
+    chance = random.Random(many * 10000 + pieces * 1000 + part * 100 + seed)
+    heap = [chance.randrange(pieces) for _ in range(many)]
+    tied = [
+        (a, b) for a, b in itertools.combinations(range(many), 2)
+        if heap[a] == heap[b] and chance.randrange(10) < part
+    ]
+    return net_of_ties(many, tied, [pair for pair in tied if chance.randrange(2)])
+
+
+def nets_of_places(many):
+    """Nets of many sorts: few and many ties, dark and lit, in one piece and in several."""
+    pairs = list(itertools.combinations(range(many), 2))
+    chain = [(a, a + 1) for a in range(many - 1)]
+    ring = chain + [(0, many - 1)] * (many > 2)
+    star = [(a, many - 1) for a in range(many - 1)]
+    apart = [(a, b) for a, b in pairs if (b - a) % 2 == 0]
+    across = [(a, b) for a, b in pairs if (b - a) % 2 == 1]
+    nets = [
+        net_of_ties(many, tied, lit)
+        for tied in (pairs[:0], pairs, chain, ring, star, apart, across)
+        for lit in (tied[:0], tied, tied[:1], tied[-1:], tied[::2])
+    ]
+    return nets + [
+        net_at_random(many, pieces, part, seed)
+        for pieces in (1, 2, 3) for part in (2, 4, 6, 9) for seed in range(4)
+    ]
+
+
+def nets_of_sorts():
+    return [net for many in range(1, 9) for net in nets_of_places(many)]
+
+
+def all_nets(many):
+    """All nets of so many places, each pair not tied, tied dark or tied lit."""
+    pairs = list(itertools.combinations(range(many), 2))
+    return [
+        (many, tuple((a, b, light) for (a, b), light in zip(pairs, lights) if light < 2))
+        for lights in itertools.product((0, 1, 2), repeat=len(pairs))
+    ]
+
+
+def small_nets():
+    return [net for many in range(1, 5) for net in all_nets(many)]
+
+
+def net_switched_plainly(net, lot):
+    """The net with each place of the lot switched by itself, all ties at it turned."""
+    ties = [list(tie) for tie in net[1]]
+    for place in lot:
+        for tie in ties:
+            if place in tie[:2]:
+                tie[2] = 1 - tie[2]
+    return (net[0], tuple(tuple(tie) for tie in ties))
+
+
+def all_nets_alike(net):
+    """The set of all nets alike with a net, each lot done."""
+    return {net_switched_plainly(net, lot) for lot in all_lots(net[0])}
+
+
+def wrong_ties(net):
+    """The net with each tie in turn, and each part of it, put otherwise."""
+    many, ties = net
+    parts = [-1, 9, 10 ** 29, True, False, None, "0", "", (), (0,), [1], {}, {0: 1}]
+    nets = []
+    for at, tie in enumerate(ties):
+        wrong = [
+            list(tie), tie[:2], tie[:1], (), tie + (0,), (tie,), (tie[:2], tie[2]), None, True, 0,
+            "010", {}, {0: 0, 1: 1, 2: 0}, (tie[1], tie[0], tie[2]), (tie[0], tie[0], tie[2]),
+            (tie[1], tie[1], tie[2]), (tie[0], many, tie[2]), (tie[0], tie[1], 2),
+        ]
+        wrong += [tie[:place] + (thing,) + tie[place + 1:] for place in range(3) for thing in parts]
+        nets += [(many, ties[:at] + (thing,) + ties[at + 1:]) for thing in wrong]
+        nets += [(many, ties[:at] + (tie,) + ties[at:])]
+        nets += [(many, ties[:at] + (tie[:2] + (1 - tie[2],),) + ties[at:])]
+        if at > 0:
+            nets += [(many, ties[:at - 1] + (tie, ties[at - 1]) + ties[at + 1:])]
+    return nets
+
+
+def wrong_nets(net):
+    """The net put otherwise as a whole, or in one of its two parts."""
+    many, ties = net
+    whole = [
+        list(net), (many,), (ties,), (ties, many), net + (0,), net + ((),), (net,), [net], str(net),
+        {0: many, 1: ties}, {many: ties}, ties, many, (many, list(ties)), (many, (ties,)),
+        (many, dict(enumerate(ties))), (many, str(ties)), (many, ties + (None,)),
+        (many, ties + ((),)), (many, [list(tie) for tie in ties]),
+    ]
+    places = [0, -1, 9, -many, 10 ** 29, -10 ** 29, True, False, None, str(many), "", (many,), [many], {}]
+    lists = [None, True, False, 0, 1, "", "()", [], {}, (0,), ((),), ((0,),), ((0, 1),), (0, 1, 0)]
+    fewer = [(last, ties) for last in [max((tie[1] for tie in ties), default=0)] if last > 0]
+    return whole + [(thing, ties) for thing in places] + [(many, thing) for thing in lists] + fewer
+
+
+def no_nets():
+    """Things that are no nets."""
+    things = ODD_THINGS + [(), 0, 1, (0, 1), ((), ()), ((0,),), ((0, 1), (1, 0)), (1,), (1, 0)]
+    things = things + [(0, ()), (9, ()), (1, ((0, 1, 0),)), (2, ((0, 2, 0),)), (8, ((0, 8, 0),))]
+    nets = [(1, ()), (2, ((0, 1, 1),)), (4, ((0, 1, 0), (0, 3, 1), (2, 3, 1)))]
+    for net in nets + [net_of_ties(8, list(itertools.combinations(range(8), 2)), [(3, 4)])]:
+        things = things + wrong_ties(net) + wrong_nets(net)
+    return things
 
 
 def refusal(call, things):

@@ -48,6 +48,9 @@ WALKED = ("range", "zip", "enumerate", "reversed")
 WALKERS = (
     "list", "tuple", "dict", "sorted", "sum", "any", "all", "enumerate", "zip", "min", "max"
 )
+CHANGES = (
+    "append", "clear", "extend", "insert", "pop", "remove", "reverse", "setdefault", "update", "sort"
+)
 KEYWORDS = {
     "sorted": ("key", "reverse"), "min": ("key", "default"), "max": ("key", "default"),
     "sum": ("start",), "enumerate": ("start",), "zip": ("strict",),
@@ -76,11 +79,10 @@ def sign_faults(text):
 
 
 def is_plain(node):
-    if isinstance(node, (ast.List, ast.Tuple)):
+    """Whether a value of a top, or a default, is plain and can't be changed."""
+    if isinstance(node, ast.Tuple):
         return all(is_plain(part) for part in node.elts)
-    if isinstance(node, ast.Dict):
-        return all(is_plain(part) for part in node.keys + node.values)
-    return isinstance(node, (ast.Constant, ast.Name))
+    return isinstance(node, ast.Constant)
 
 
 def is_docstring(node):
@@ -215,6 +217,38 @@ def walk_faults(tree):
             yield "something kept that is walked"
 
 
+def plain_names(node):
+    return {part.id for part in of_kind(node, ast.Name)}
+
+
+def change_faults(tree):
+    """Yield changes of what is walked just then."""
+    for loop in of_kind(tree, ast.For, ast.ListComp, ast.DictComp):
+        parts = [loop.iter] if isinstance(loop, ast.For) else [part.iter for part in loop.generators]
+        walked = set().union(*[plain_names(part) for part in parts])
+        for node in of_kind(loop, ast.Call, ast.Subscript):
+            if isinstance(node, ast.Call):
+                changes = isinstance(node.func, ast.Attribute) and node.func.attr in CHANGES
+                if changes and plain_names(node.func.value) & walked:
+                    yield "a change of what is walked"
+            elif isinstance(node.ctx, ast.Store) and plain_names(node.value) & walked:
+                yield "a change of what is walked"
+
+
+def arity_faults(trees):
+    """Yield calls of own defs, classes and methods that hand in too much or too little."""
+    takes = {}
+    for node in [part for tree in trees for part in of_kind(tree, ast.FunctionDef)]:
+        most = len(node.args.args)
+        takes.setdefault(node.name, []).append((most - len(node.args.defaults), most))
+    for node in [part for tree in trees for part in of_kind(tree, ast.Call)]:
+        is_method = isinstance(node.func, ast.Attribute) and node.func.attr != "__init__"
+        name = node.func.attr if isinstance(node.func, ast.Attribute) else called(node)
+        many = len(node.args) + len(node.keywords) + is_method
+        if name != "__init__" and not any(low <= many <= high for low, high in takes.get(name, [(0, 99)])):
+            yield f"a call of {name}"
+
+
 def class_faults(tree):
     """Yield classes of errors that are handed on or kept."""
     let = []
@@ -281,7 +315,8 @@ def import_faults(trees):
 def faults_of_text(text):
     tree = ast.parse(text)
     checks = [
-        top_faults, form_faults, def_faults, name_faults, call_faults, walk_faults, class_faults
+        top_faults, form_faults, def_faults, name_faults, call_faults, walk_faults, change_faults,
+        class_faults,
     ]
     return list(sign_faults(text)) + [fault for check in checks for fault in check(tree)]
 
@@ -303,7 +338,10 @@ WRONG = [
     "def f(x):\n    assert x", "def f(x):\n    while x:\n        x = 0\n    else:\n        x = 1",
     "def f(x):\n    try:\n        x = 1\n    except:\n        x = 2", "def f(x):\n    del x[0]",
     "def f(x):\n    return 1\n" + "    x = 1\n" * 40, "x = 'caf\u00e9'", "x = 1\t", "# " + "a" * 120,
-    "def f(x=[y for y in (1, 2)]):\n    return x", "def f(x):\n    return f(x)(x)", "x = 1\n" * 401,
+    "def f(x=[y for y in (1, 2)]):\n    return x", "x = []", "x = {}", "x = ([],)",
+    "def f(x=[]):\n    return x", "def f(x):\n    for y in x:\n        x.append(y)",
+    "def f(x):\n    for k, y in enumerate(x):\n        x[k] = y",
+    "def f(x):\n    for y in x[0]:\n        x[0].pop()", "def f(x):\n    return [x.pop() for y in x]", "def f(x):\n    return f(x)(x)", "x = 1\n" * 401,
 ]
 WRONG_OBJECTS = [
     "class A:\n    def many(self):\n        self.many = 1",
@@ -312,6 +350,11 @@ WRONG_OBJECTS = [
     "class A:\n    def put(self, x):\n        return x.sort()",
     "class A:\n    def put(self, x):\n        return x.append",
     "class A:\n    def encode(self):\n        return 1",
+]
+WRONG_CALLS = [
+    "def f(x):\n    return f()", "def f(x, y=1):\n    return f(1, 2, 3)",
+    "class A:\n    def put(self):\n        return self.put(1)",
+    "class A:\n    def put(self, x):\n        return self.put()",
 ]
 WRONG_IMPORTS = [
     ("from lineswitch.b import x", "from lineswitch.a import y\nx = 1"),
@@ -327,8 +370,8 @@ class LanguageTest(unittest.TestCase):
 
     def test_the_files(self):
         names = [path.stem for path in FILES]
-        for name in "__init__ errors boards alike left bounds floors worst keeper".split():
-            self.assertIn(name, names)
+        modules = "errors boards alike left bounds floors worst keeper nets made texts desk"
+        self.assertEqual(sorted(names), sorted(["__init__"] + modules.split()))
         for path in PACKAGE.iterdir():
             self.assertTrue(path in FILES or path.name == "__pycache__", path)
             self.assertRegex(path.stem, r"^[a-z0-9_]+$")
@@ -339,6 +382,7 @@ class LanguageTest(unittest.TestCase):
 
     def test_files_together(self):
         self.assertEqual(list(object_faults(list(self.trees().values()))), [])
+        self.assertEqual(list(arity_faults(list(self.trees().values()))), [])
         self.assertEqual(list(import_faults(self.trees())), [])
 
     def test_what_is_wrong_is_found(self):
@@ -347,6 +391,9 @@ class LanguageTest(unittest.TestCase):
         for text in WRONG_OBJECTS:
             self.assertEqual(faults_of_text(text), [], text)
             self.assertNotEqual(list(object_faults([ast.parse(text)])), [], text)
+        for text in WRONG_CALLS:
+            self.assertEqual(faults_of_text(text), [], text)
+            self.assertNotEqual(list(arity_faults([ast.parse(text)])), [], text)
         for one, other in WRONG_IMPORTS:
             trees = {"a": ast.parse(one), "b": ast.parse(other)}
             self.assertNotEqual(list(import_faults(trees)), [], one)
